@@ -1,0 +1,1 @@
+"""Rulesmerged: rules that hold though copies are changed apart."""

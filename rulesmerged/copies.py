@@ -1,0 +1,82 @@
+"""Copies of a base, and the kinds of changes that they do."""
+
+from rulesmerged.errors import InvalidCopy
+from rulesmerged.rows import are_row_flags, are_table_rows, check_rows
+from rulesmerged.schemas import has_just_tables
+
+
+def is_copy(schema, base, thing):
+    """Whether an object is a copy of a base."""
+    check_rows(schema, base)
+    if not has_just_tables(schema, thing):
+        return False
+    return all([_is_table_copy(schema, base, table, thing[table]) for table in schema.tables])
+
+
+def _is_table_copy(schema, base, table, thing):
+    if not isinstance(thing, tuple) or len(thing) != 2:
+        return False
+    states, put = thing
+    if not isinstance(states, list) or len(states) != len(base[table]):
+        return False
+    many_flags = len(schema.flags(table))
+    if not all([state is None or are_row_flags(state, many_flags) for state in states]):
+        return False
+    return are_table_rows(schema, table, put)
+
+
+def check_copy(schema, base, thing):
+    """Raises InvalidRows for a base that is no rows of a schema, InvalidCopy for an object that is no copy of it."""
+    if not is_copy(schema, base, thing):
+        raise InvalidCopy("this is no copy of the base")
+
+
+def copy_rows(schema, base, copy):
+    """The rows of a copy of a base."""
+    check_copy(schema, base, copy)
+    return {table: _table_rows(base[table], copy[table]) for table in schema.tables}
+
+
+def _table_rows(base_rows, table_copy):
+    states, put = table_copy
+    return [(values, state) for (values, _), state in zip(base_rows, states) if state is not None] + put
+
+
+def changes_of(schema, base, copy):
+    """The ascending list of the kinds of changes that a copy of a base does."""
+    check_copy(schema, base, copy)
+    kinds = []
+    for table in schema.tables:
+        states, put = copy[table]
+        if put:
+            kinds.append(("put", table))
+        if None in states:
+            kinds.append(("drop", table))
+        kinds.extend(_turns(schema, table, base[table], states))
+    return sorted(kinds)
+
+
+def _turns(schema, table, base_rows, states):
+    """The kinds of changes of flags that lead from rows of a table to their states in a copy."""
+    kinds = []
+    both = [(flags, state) for (_, flags), state in zip(base_rows, states) if state is not None]
+    for at, flag in enumerate(schema.flags(table)):
+        if any([state[at] and not flags[at] for flags, state in both]):
+            kinds.append(("on", table, flag))
+        if any([flags[at] and not state[at] for flags, state in both]):
+            kinds.append(("off", table, flag))
+    return kinds
+
+
+def unchanged(schema, base):
+    """The copy of a base that does no changes."""
+    check_rows(schema, base)
+    return {table: ([flags for _, flags in base[table]], []) for table in schema.tables}
+
+
+def are_kinds(schema, thing):
+    """Whether an object is a list of different kinds of changes of a schema."""
+    changes = schema.changes
+    if not isinstance(thing, list) or not all([kind in changes for kind in thing]):
+        return False
+    return len(set(thing)) == len(thing)

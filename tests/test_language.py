@@ -1,0 +1,130 @@
+"""The package keeps to its small subset of Python, as far as a short look at its trees can tell, and to its interface."""
+
+import ast
+import importlib
+import inspect
+import pathlib
+import re
+import unittest
+
+PACKAGE = pathlib.Path(__file__).resolve().parent.parent / 'rulesmerged'
+
+BUILTINS = set('''len range enumerate zip min max sum abs sorted reversed int str bool list tuple dict set isinstance ord
+    repr any all divmod super property ValueError'''.split())
+
+MODULES = {
+    'errors': {'ApartError': ['text'], 'ParseError': ['line']},
+    'schemas': {'is_name': ['thing'], 'Schema': ['tables']},
+    'rows': {'are_rows': ['schema', 'thing'], 'rows_at': ['schema', 'rows', 'table', 'column', 'value'],
+             'beside': ['schema', 'rows', 'others']},
+    'conditions': {'is_condition': ['schema', 'table', 'thing'], 'depth': ['condition'], 'has_parts': ['table', 'condition'],
+                   'meets': ['schema', 'rows', 'table', 'index', 'condition']},
+    'texts': {'format_condition': ['condition'], 'format_book': ['book'], 'format_schema': ['schema'],
+              'parse_condition': ['schema', 'table', 'text'], 'parse_book': ['schema', 'text'], 'parse_schema': ['text']},
+    'books': {'is_rule': ['schema', 'thing'], 'is_book': ['schema', 'thing'], 'broken': ['schema', 'book', 'rows'],
+              'keeps': ['schema', 'book', 'rows']},
+    'copies': {'is_copy': ['schema', 'base', 'thing'], 'copy_rows': ['schema', 'base', 'copy'],
+               'changes_of': ['schema', 'base', 'copy'], 'unchanged': ['schema', 'base'], 'are_kinds': ['schema', 'thing']},
+}
+
+BARRED = '''type typing enum Enum Flag IntFlag Generic Protocol ABC namedtuple TypedDict mro elements open input law register'''
+
+METHODS = set('''append clear copy count endswith extend find get index insert isalnum isalpha isdigit islower isspace isupper
+    items join keys ljust lower lstrip partition pop remove replace reverse rfind rjust rpartition rsplit rstrip setdefault
+    split splitlines startswith strip update upper values zfill bit_length isascii __init__'''.split())
+
+
+class LanguageTest(unittest.TestCase):
+    def setUp(self):
+        self.files = sorted(PACKAGE.glob('*.py'))
+        self.trees = {path.name: ast.parse(path.read_text()) for path in self.files}
+
+    def nodes(self, *kinds):
+        return [(name, node) for name, tree in self.trees.items() for node in ast.walk(tree) if isinstance(node, kinds)]
+
+    def test_files_lines_and_characters(self):
+        found = [path for path in PACKAGE.iterdir() if path.name != '__pycache__']
+        self.assertEqual(sorted(found), self.files)
+        for path in self.files:
+            text = path.read_text()
+            self.assertIsNotNone(re.fullmatch('[ -~\n]*', text), path.name)
+            lines = text.split('\n')
+            self.assertLessEqual(len(lines), 400, path.name)
+            self.assertLessEqual(max([len(line) for line in lines]), 120, path.name)
+
+    def test_functions_are_short(self):
+        for name, node in self.nodes(ast.FunctionDef):
+            self.assertLessEqual(node.end_lineno - node.lineno + 1, 40, (name, node.name))
+            told = [each.id for each in node.decorator_list]
+            self.assertIn(told, ([], ['property']), (name, node.name))
+
+    def test_imports_name_the_defining_file_and_go_one_way(self):
+        reached = {}
+        for name, node in self.nodes(ast.Import, ast.ImportFrom):
+            self.assertIsInstance(node, ast.ImportFrom, name)
+            self.assertEqual([node.level, node.module.partition('.')[0]], [0, 'rulesmerged'], name)
+            other = node.module.partition('.')[2] + '.py'
+            bound = []
+            for part in self.trees[other].body:
+                bound += [part.name] if hasattr(part, 'name') else []
+                bound += [each.id for each in getattr(part, 'targets', [])]
+            for alias in node.names:
+                self.assertIn(alias.name, bound, name)
+                self.assertIsNone(alias.asname, name)
+            reached.setdefault(name, set()).add(other)
+        while reached:
+            free = [name for name in reached if not reached[name] & set(reached)]
+            self.assertTrue(free, 'files import from each other')
+            for name in free:
+                del reached[name]
+
+    def test_module_level_holds_definitions_and_plain_values(self):
+        for name, tree in self.trees.items():
+            for node in tree.body:
+                docstring = isinstance(node, ast.Expr) and isinstance(node.value, ast.Constant)
+                plain = (ast.ImportFrom, ast.FunctionDef, ast.ClassDef, ast.Assign)
+                self.assertTrue(docstring or isinstance(node, plain), (name, node.lineno))
+                if isinstance(node, ast.Assign):
+                    ast.literal_eval(node.value)
+
+    def test_no_barred_statements_and_expressions(self):
+        barred = (ast.GeneratorExp, ast.Lambda, ast.Global, ast.AsyncFunctionDef, ast.Await, ast.Div, ast.Yield, ast.Mod)
+        self.assertEqual([(name, node.lineno) for name, node in self.nodes(*barred)], [])
+        for name, node in self.nodes(ast.Constant):
+            self.assertNotIsInstance(node.value, float, name)
+
+    def test_names(self):
+        for name, tree in self.trees.items():
+            own = {node.id for node in ast.walk(tree) if isinstance(node, ast.Name) and isinstance(node.ctx, ast.Store)}
+            own |= {node.name for node in ast.walk(tree) if isinstance(node, (ast.FunctionDef, ast.ClassDef))}
+            own |= {alias.name for node in tree.body if isinstance(node, ast.ImportFrom) for alias in node.names}
+            own |= {node.arg for node in ast.walk(tree) if isinstance(node, ast.arg)}
+            used = {node.id for node in ast.walk(tree) if isinstance(node, ast.Name)}
+            self.assertEqual(sorted(used - own - BUILTINS), [], name)
+            self.assertEqual(sorted(own & (BUILTINS | set(BARRED.split()))), [], name)
+
+    def test_methods(self):
+        own = {node.name for _, node in self.nodes(ast.FunctionDef)}
+        for name, node in self.nodes(ast.Call):
+            if isinstance(node.func, ast.Attribute):
+                self.assertIn(node.func.attr, METHODS | own, (name, node.lineno))
+
+    def test_interface(self):
+        for module, names in MODULES.items():
+            file = importlib.import_module(f'rulesmerged.{module}')
+            defined = [node.name for node in self.trees[f'{module}.py'].body if hasattr(node, 'name')]
+            for name, parameters in names.items():
+                self.assertIn(name, defined)
+                if name != 'ApartError':
+                    self.assertEqual(list(inspect.signature(getattr(file, name)).parameters), parameters, name)
+
+    def test_interface_of_schema(self):
+        schema = next(node for _, node in self.nodes(ast.ClassDef) if node.name == 'Schema')
+        methods = {node.name: [each.arg for each in node.args.args] for node in schema.body if hasattr(node, 'name')}
+        expected = {'tables': ['self'], 'changes': ['self'], 'columns': ['self', 'table'], 'flags': ['self', 'table'],
+                    'kind_of': ['self', 'table', 'column'], 'places': ['self', 'kind'], '__eq__': ['self', 'other']}
+        self.assertEqual({name: methods.get(name) for name in expected}, expected)
+
+
+if __name__ == '__main__':
+    unittest.main()
