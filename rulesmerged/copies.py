@@ -1,13 +1,22 @@
 """Copies of a base, and the kinds of changes that they do."""
 
-from rulesmerged.errors import InvalidCopy
-from rulesmerged.rows import are_row_flags, are_table_rows, check_rows
+from rulesmerged.errors import InvalidCopy, InvalidLets
+from rulesmerged.rows import are_bools, are_table_rows, check_rows
 from rulesmerged.schemas import has_just_tables
 
 
 def is_copy(schema, base, thing):
     """Whether an object is a copy of a base."""
     check_rows(schema, base)
+    return _is_copy_of_rows(schema, base, thing)
+
+
+def are_copies(schema, base, thing):
+    """Whether an object is a list of copies of rows of a schema."""
+    return isinstance(thing, list) and all([_is_copy_of_rows(schema, base, copy) for copy in thing])
+
+
+def _is_copy_of_rows(schema, base, thing):
     if not has_just_tables(schema, thing):
         return False
     return all([_is_table_copy(schema, base, table, thing[table]) for table in schema.tables])
@@ -20,7 +29,7 @@ def _is_table_copy(schema, base, table, thing):
     if not isinstance(states, list) or len(states) != len(base[table]):
         return False
     many_flags = len(schema.flags(table))
-    if not all([state is None or are_row_flags(state, many_flags) for state in states]):
+    if not all([state is None or are_bools(state, many_flags) for state in states]):
         return False
     return are_table_rows(schema, table, put)
 
@@ -45,6 +54,11 @@ def _table_rows(base_rows, table_copy):
 def changes_of(schema, base, copy):
     """The ascending list of the kinds of changes that a copy of a base does."""
     check_copy(schema, base, copy)
+    return changes_done(schema, base, copy)
+
+
+def changes_done(schema, base, copy):
+    """What changes_of tells, of what surely is a copy of a base."""
     kinds = []
     for table in schema.tables:
         states, put = copy[table]
@@ -76,7 +90,12 @@ def unchanged(schema, base):
 
 def are_kinds(schema, thing):
     """Whether an object is a list of different kinds of changes of a schema."""
-    changes = schema.changes
-    if not isinstance(thing, list) or not all([kind in changes for kind in thing]):
+    if not isinstance(thing, list) or not all([schema.is_change(kind) for kind in thing]):
         return False
     return len(set(thing)) == len(thing)
+
+
+def check_lets(schema, thing):
+    """Raises InvalidLets for an object that is no tuple of two lists of different kinds of changes."""
+    if not isinstance(thing, tuple) or len(thing) != 2 or not all([are_kinds(schema, kinds) for kinds in thing]):
+        raise InvalidLets("these are no lists of kinds of changes for two copies")

@@ -6,24 +6,15 @@ from rulesmerged.schemas import has_just_tables
 
 def is_number(thing):
     """Whether an object is an integer from 0 on, as values and indexes are."""
-    return isinstance(thing, int) and not isinstance(thing, bool) and thing >= 0
+    return type(thing) is int and thing >= 0
 
 
-def are_row_flags(thing, many):
+def are_bools(thing, many):
     """Whether an object is a tuple of so many bools."""
     if not isinstance(thing, tuple) or len(thing) != many:
         return False
-    for flag in thing:
-        if not isinstance(flag, bool):
-            return False
-    return True
-
-
-def _are_row_values(thing, many):
-    if not isinstance(thing, tuple) or len(thing) != many:
-        return False
-    for value in thing:
-        if not is_number(value):
+    for each in thing:
+        if not isinstance(each, bool):
             return False
     return True
 
@@ -31,22 +22,39 @@ def _are_row_values(thing, many):
 def _is_row(thing, many_values, many_flags):
     if not isinstance(thing, tuple) or len(thing) != 2:
         return False
-    return _are_row_values(thing[0], many_values) and are_row_flags(thing[1], many_flags)
+    values, flags = thing
+    if not isinstance(values, tuple) or not isinstance(flags, tuple):
+        return False
+    if len(values) != many_values or len(flags) != many_flags:
+        return False
+    for value in values:
+        if type(value) is not int or value < 0:
+            return False
+    for flag in flags:
+        if not isinstance(flag, bool):
+            return False
+    return True
 
 
 def are_table_rows(schema, table, thing):
     """Whether an object is a list of rows of a table."""
     if not isinstance(thing, list):
         return False
-    many_values, many_flags = len(schema.columns(table)), len(schema.flags(table))
-    return all([_is_row(row, many_values, many_flags) for row in thing])
+    many_values, many_flags = schema.sizes(table)
+    for row in thing:
+        if not _is_row(row, many_values, many_flags):
+            return False
+    return True
 
 
 def are_rows(schema, thing):
     """Whether an object is rows of a schema."""
     if not has_just_tables(schema, thing):
         return False
-    return all([are_table_rows(schema, table, thing[table]) for table in schema.tables])
+    for table in thing:
+        if not are_table_rows(schema, table, thing[table]):
+            return False
+    return True
 
 
 def check_rows(schema, thing):

@@ -19,9 +19,13 @@ def is_name(thing):
 
 def has_just_tables(schema, thing):
     """Whether an object is a dict that has the tables of a schema as its keys, all of them and no others."""
-    if not isinstance(thing, dict) or len(thing) != len(schema.tables):
+    tables = schema.tables
+    if not isinstance(thing, dict) or len(thing) != len(tables):
         return False
-    return all([table in thing for table in schema.tables])
+    for table in tables:
+        if table not in thing:
+            return False
+    return True
 
 
 def _is_column(thing):
@@ -48,6 +52,17 @@ def _are_tables(thing):
     return all([is_name(table) and _is_table(thing[table]) for table in thing])
 
 
+def _changes(tables):
+    kinds = []
+    for table, (_, flags) in tables.items():
+        kinds.append(("drop", table))
+        kinds.append(("put", table))
+        for flag in flags:
+            kinds.append(("off", table, flag))
+            kinds.append(("on", table, flag))
+    return sorted(kinds)
+
+
 class Schema:
     """One to four tables; each has columns with their kinds, and flags."""
 
@@ -55,6 +70,16 @@ class Schema:
         if not _are_tables(tables):
             raise InvalidSchema("these are no tables of a schema")
         self._tables = {table: tables[table] for table in sorted(tables)}
+        # Conditions, rows and copies ask for these very often, so they are worked out once.
+        self._changes = {kind: True for kind in _changes(self._tables)}
+        self._sizes = {table: (len(columns), len(flags)) for table, (columns, flags) in self._tables.items()}
+        self._kinds, self._column_at, self._flag_at = {}, {}, {}
+        for table, (columns, flags) in self._tables.items():
+            for at, (name, kind) in enumerate(columns):
+                self._kinds[(table, name)] = kind
+                self._column_at[(table, name)] = at
+            for at, flag in enumerate(flags):
+                self._flag_at[(table, flag)] = at
 
     def __eq__(self, other):
         return isinstance(other, Schema) and self._tables == other._tables
@@ -67,14 +92,16 @@ class Schema:
     @property
     def changes(self):
         """The ascending list of the kinds of changes."""
-        kinds = []
-        for table, (_, flags) in self._tables.items():
-            kinds.append(("drop", table))
-            kinds.append(("put", table))
-            for flag in flags:
-                kinds.append(("off", table, flag))
-                kinds.append(("on", table, flag))
-        return sorted(kinds)
+        return list(self._changes)
+
+    def is_change(self, thing):
+        """Whether an object is a kind of changes."""
+        if not isinstance(thing, tuple):
+            return False
+        for word in thing:
+            if not isinstance(word, str):
+                return False
+        return thing in self._changes
 
     def has_table(self, table):
         """Whether an object is the name of a table."""
@@ -82,7 +109,7 @@ class Schema:
 
     def check_table(self, table):
         """Raises UnknownTable for an object that is not the name of a table."""
-        if not self.has_table(table):
+        if not isinstance(table, str) or table not in self._tables:
             raise UnknownTable("the schema has no such table")
 
     def columns(self, table):
@@ -95,20 +122,49 @@ class Schema:
         self.check_table(table)
         return self._tables[table][1]
 
+    def sizes(self, table):
+        """How many columns and how many flags a table has, for the name of a table."""
+        return self._sizes[table]
+
+    def has_flag(self, table, flag):
+        """Whether an object is a flag of a table."""
+        return isinstance(flag, str) and (table, flag) in self._flag_at
+
+    def flag_at(self, table, flag):
+        """The index of a flag of a table among its flags."""
+        return self._flag_at[(table, flag)]
+
     def has_column(self, table, column):
         """Whether an object is the name of a column of a table."""
-        return column in [name for name, _ in self.columns(table)]
+        self.check_table(table)
+        return isinstance(column, str) and (table, column) in self._kinds
+
+    def check_column(self, table, column):
+        """Raises UnknownTable, or UnknownColumn for an object that is not the name of a column of the table."""
+        if not self.has_column(table, column):
+            raise UnknownColumn("the table has no such column")
 
     def column_at(self, table, column):
         """The index of a column among those of its table."""
-        if not self.has_column(table, column):
-            raise UnknownColumn("the table has no such column")
-        return [name for name, _ in self.columns(table)].index(column)
+        self.check_column(table, column)
+        return self._column_at[(table, column)]
 
     def kind_of(self, table, column):
         """The kind of a column of a table."""
-        return self.columns(table)[self.column_at(table, column)][1]
+        self.check_column(table, column)
+        return self._kinds[(table, column)]
+
+    def kind_at(self, place):
+        """The kind of a place (table, column) of the schema."""
+        return self._kinds[place]
+
+    def is_link(self, table, column, other, target):
+        """Whether objects are a column of a table and, of the same kind, a place (other, target)."""
+        if not isinstance(column, str) or not isinstance(other, str) or not isinstance(target, str):
+            return False
+        kind = self._kinds.get((table, column))
+        return kind is not None and kind == self._kinds.get((other, target))
 
     def places(self, kind):
         """The ascending list of the places (table, column) of a kind."""
-        return sorted([(table, name) for table in self._tables for name, own in self.columns(table) if own == kind])
+        return sorted([place for place, own in self._kinds.items() if own == kind])

@@ -1,9 +1,11 @@
 """What holds for all calls alike: arguments stay as they are, and the order of the keys of a dict means nothing."""
 
 import copy
+import inspect
 import unittest
 
-from rulesmerged import books, conditions, copies, rows, schemas, texts
+from rulesmerged import books, conditions, copies, free, histories, kept, left, looks, merges, papers, rows, schemas, texts
+from tests import reference_histories
 from tests.things import ROWS, TABLES, turned_round
 
 SCHEMA = schemas.Schema(TABLES)
@@ -15,7 +17,32 @@ COPY = {
     'man': ([(), None], [((5,), ())]),
 }
 
+# A case, in which each shop is at a town, until it is merged.
+WAYS = {'town': ('drop', ('turned', 'on')), 'shop': ('drop', ('off',)), 'man': ('keep', ())}
+AT = [('shop', ('has', 'at', 'town', 'id', ('flag', 'old')))]
+LETS = ([('put', 'shop'), ('on', 'shop', 'open')], [('drop', 'town'), ('put', 'man')])
+BASE = {'town': [((1, 2), (True, False)), ((2, 2), (True, False))], 'shop': [((2, 7), (False,))], 'man': []}
+FIRST = {'town': ([(True, False)] * 2, []), 'shop': ([(True,)], [((1, 7), (False,))]), 'man': ([], [])}
+SECOND = {'town': ([None, (True, False)], []), 'shop': ([(False,)], []), 'man': ([], [((7,), ())])}
+TERMS = [SCHEMA, AT, WAYS, LETS]
+HISTORY = ('shop', (None, (False,), None, (False,)), (None, (True,), None, (False,)))
+STRUCK = ('shop', ((False,), (True,), (False,), (False,)), ((True,), (True,), (True,), (False,)))
+MEETING = ('town', ((True,), (True,), (True,), (False,)))
+FREE = [schemas.Schema({'man': TABLES['man']}), [('man', ('has', 'id', 'man', 'id', ('yes',)))], {'man': ('drop', ())}]
+
 CALLS = [
+    (merges.are_ways, [SCHEMA, WAYS]), (merges.merged, [SCHEMA, WAYS, BASE, [FIRST, SECOND]]),
+    (merges.fewest_breaking, [SCHEMA, AT, WAYS, BASE, [FIRST, SECOND, FIRST]]), (looks.looks, [SCHEMA, BOOK]),
+    (looks.own_looks, [SCHEMA, BOOK, 'town']), (looks.looks_into, [SCHEMA, BOOK, 'shop', 'at']),
+    (looks.looks_through, [SCHEMA, BOOK, 'town']), (histories.histories, TERMS + ['shop']),
+    (histories.is_history, TERMS + [HISTORY]), (histories.is_meeting, [SCHEMA, AT, MEETING]),
+    (histories.gives, TERMS + [HISTORY, 0, 3]), (histories.fits, TERMS + [HISTORY, 'at', MEETING]),
+    (histories.is_case, TERMS + [BASE, [FIRST, SECOND]]),
+    (histories.history_on, TERMS + [BASE, [FIRST, SECOND], ('shop', 0, 0)]), (left.rounds_of_histories, TERMS),
+    (left.histories_left, TERMS + ['shop']), (left.case_with, TERMS + [HISTORY]), (papers.is_paper, TERMS + [{STRUCK: 1}]),
+    (papers.paper, TERMS + [STRUCK]), (kept.is_kept, TERMS), (kept.kept_rules, TERMS),
+    (kept.breach, TERMS + [0]), (free.is_free, FREE + [[('put', 'man'), ('drop', 'man')]]), (free.greatest_free, FREE),
+    (free.least_bad, FREE),
     (schemas.Schema, [TABLES]), (rows.are_rows, [SCHEMA, ROWS]), (rows.rows_at, [SCHEMA, ROWS, 'town', 'of', 2]),
     (rows.beside, [SCHEMA, ROWS, ROWS]), (conditions.is_condition, [SCHEMA, 'town', CONDITION]),
     (conditions.meets, [SCHEMA, ROWS, 'town', 0, CONDITION]), (conditions.depth, [CONDITION]),
@@ -45,12 +72,19 @@ class ArgumentsTest(unittest.TestCase):
             self.assertEqual(repr(arguments[1:]), repr(before[1:]), call.__name__)
             self.assertEqual(arguments, before, call.__name__)
 
+    def test_parameters_by_name(self):
+        for call, arguments in CALLS:
+            names = list(inspect.signature(call).parameters)
+            told = call(**dict(zip(names, arguments)))
+            self.assertEqual(told, call(*arguments), call.__name__)
+            self.assertEqual(len(names), len(arguments))
+
     def test_order_of_keys(self):
         for call, arguments in CALLS:
             told = call(*arguments)
             self.assertEqual(call(*[turned_round(each) for each in arguments]), told, call.__name__)
             if isinstance(told, dict):
-                self.assertEqual(list(told), sorted(told))
+                self.assertEqual(list(told), sorted(told, key=reference_histories.order))
 
     def test_lists_and_dicts_are_new_and_stand_once(self):
         for call, arguments in CALLS:

@@ -65,6 +65,91 @@ COPIES = '''
 {'town': ([(True,), (False,)], [])}
 '''
 
+MERGES = '''
+>>> from rulesmerged.merges import fewest_breaking, merged
+>>> from rulesmerged.schemas import Schema
+>>> schema = Schema({'town': ((('id', 'town'),), ('old',))})
+>>> base = {'town': [((1,), (False,)), ((1,), (False,))]}
+>>> copies = [{'town': ([(True,), None], [])}, {'town': ([(False,), (True,)], [((4,), (False,))])}]
+>>> merged(schema, {'town': ('drop', ('turned',))}, base, copies)
+{'town': ([(True,), None], [((4,), (False,))])}
+>>> merged(schema, {'town': ('keep', ('off',))}, base, copies)
+{'town': ([(False,), (True,)], [((4,), (False,))])}
+>>> fewest_breaking(schema, [('town', ('not', ('flag', 'old')))], {'town': ('keep', ('off',))}, base, copies[:1] * 2 + copies)
+[0]
+'''
+
+LOOKS = '''
+>>> from rulesmerged.looks import looks, looks_into, looks_through, own_looks
+>>> from rulesmerged.schemas import Schema
+>>> schema = Schema({'shop': ((('at', 'town'),), ('open',)), 'town': ((('id', 'town'),), ('old',))})
+>>> inner = ('has', 'id', 'shop', 'at', ('flag', 'open'))
+>>> book = [('town', ('not', ('flag', 'old'))), ('shop', ('has', 'at', 'town', 'id', inner)), ('town', inner)]
+>>> [look[:4] for look in looks(schema, book)]
+[('shop', 'at', 'town', 'id'), ('town', 'id', 'shop', 'at')]
+>>> [own_looks(schema, book, 'town'), looks_into(schema, book, 'town', 'id'), looks_through(schema, book, 'town')]
+[[1], [0], [0, 1]]
+'''
+
+HISTORIES = '''
+>>> from rulesmerged.histories import histories, history_on, is_case
+>>> from rulesmerged.schemas import Schema
+>>> schema = Schema({'town': ((('id', 'town'),), ('old',))})
+>>> book, ways = [('town', ('flag', 'old'))], {'town': ('drop', ('turned',))}
+>>> histories(schema, book, ways, ([('drop', 'town')], [('put', 'town')]), 'town')
+[('town', (None, None, (True,), (True,)), (None, None, (), ())), ('town', ((True,), None, (True,), None), ((), None, (), None)), ('town', ((True,), (True,), (True,), (True,)), ((), (), (), ()))]
+>>> base, copies = {'town': [((1,), (True,))]}, [{'town': ([None], [])}, {'town': ([(True,)], [((2,), (True,))])}]
+>>> lets = ([('drop', 'town')], [('put', 'town')])
+>>> [is_case(schema, book, ways, lets, base, copies), is_case(schema, book, ways, lets, base, copies[::-1])]
+[True, False]
+>>> history_on(schema, book, ways, lets, base, copies, ('town', 2, 0))
+('town', (None, None, (True,), (True,)), (None, None, (), ()))
+'''
+
+LEFT = '''
+>>> from rulesmerged.left import histories_left, rounds_of_histories
+>>> from rulesmerged.schemas import Schema
+>>> schema = Schema({'town': ((('id', 'town'), ('of', 'town')), ())})
+>>> book, ways = [('town', ('not', ('has', 'id', 'town', 'id', ('yes',))))], {'town': ('drop', ())}
+>>> [rounds_of_histories(schema, book, ways, ([], [])), histories_left(schema, book, ways, ([], []), 'town')]
+[{('town', ((), (), (), ()), ((False,), (False,), (False,), (False,))): 1, ('town', ((), (), (), ()), ((False,), (False,), (False,), (True,))): 1}, []]
+'''
+
+PAPERS = '''
+>>> from rulesmerged.papers import is_paper, paper
+>>> from rulesmerged.schemas import Schema
+>>> schema = Schema({'town': ((('id', 'town'),), ())})
+>>> book, ways = [('town', ('not', ('has', 'id', 'town', 'id', ('yes',))))], {'town': ('drop', ())}
+>>> history = ('town', ((), (), (), ()), ((False,), (False,), (False,), (False,)))
+>>> [is_paper(schema, book, ways, ([], []), {history: number}) for number in (0, 1, 7)]
+[False, True, True]
+>>> paper(schema, [], ways, ([], []), ('town', ((), (), (), ()), ((), (), (), ()))) is None
+True
+'''
+
+KEPT = '''
+>>> from rulesmerged.kept import is_kept, kept_rules
+>>> from rulesmerged.schemas import Schema
+>>> schema = Schema({'shop': ((('at', 'town'),), ()), 'town': ((('id', 'town'),), ())})
+>>> book = [('shop', ('has', 'at', 'town', 'id', ('yes',))), ('town', ('yes',))]
+>>> ways = {'shop': ('drop', ()), 'town': ('drop', ())}
+>>> [is_kept(schema, book, ways, ([('put', 'shop')], [('drop', 'town')])), kept_rules(schema, book, ways, ([('put', 'shop')], [('drop', 'town')]))]
+[False, [1]]
+>>> is_kept(schema, book, {'shop': ('drop', ()), 'town': ('keep', ())}, ([('put', 'shop')], [('drop', 'town')]))
+True
+'''
+
+FREE = '''
+>>> from rulesmerged.free import greatest_free, is_free, least_bad
+>>> from rulesmerged.schemas import Schema
+>>> schema = Schema({'shop': ((('at', 'town'),), ()), 'town': ((('id', 'town'),), ())})
+>>> book, ways = [('shop', ('has', 'at', 'town', 'id', ('yes',)))], {'shop': ('drop', ()), 'town': ('drop', ())}
+>>> [greatest_free(schema, book, ways), least_bad(schema, book, ways)]
+[[[('drop', 'shop'), ('put', 'shop'), ('put', 'town')]], [[('drop', 'town')]]]
+>>> is_free(schema, book, {'shop': ('drop', ()), 'town': ('keep', ())}, schema.changes)
+True
+'''
+
 
 class ExamplesTest(unittest.TestCase):
     def run_examples(self, text):
@@ -104,6 +189,27 @@ class ExamplesTest(unittest.TestCase):
 
     def test_copies(self):
         self.run_examples(COPIES)
+
+    def test_merges(self):
+        self.run_examples(MERGES)
+
+    def test_looks(self):
+        self.run_examples(LOOKS)
+
+    def test_histories(self):
+        self.run_examples(HISTORIES)
+
+    def test_left(self):
+        self.run_examples(LEFT)
+
+    def test_papers(self):
+        self.run_examples(PAPERS)
+
+    def test_kept(self):
+        self.run_examples(KEPT)
+
+    def test_free(self):
+        self.run_examples(FREE)
 
     def test_readme(self):
         told = doctest.testfile('../README.md')

@@ -10,7 +10,11 @@ import unittest
 PACKAGE = pathlib.Path(__file__).resolve().parent.parent / 'rulesmerged'
 
 BUILTINS = set('''len range enumerate zip min max sum abs sorted reversed int str bool list tuple dict set isinstance ord
-    repr any all divmod super property ValueError'''.split())
+    repr any all divmod super property ValueError type'''.split())
+
+LIBRARY = {'itertools': ['combinations', 'product']}
+
+TERMS = ['schema', 'book', 'ways', 'lets']
 
 MODULES = {
     'errors': {'ApartError': ['text'], 'ParseError': ['line']},
@@ -25,6 +29,18 @@ MODULES = {
               'keeps': ['schema', 'book', 'rows']},
     'copies': {'is_copy': ['schema', 'base', 'thing'], 'copy_rows': ['schema', 'base', 'copy'],
                'changes_of': ['schema', 'base', 'copy'], 'unchanged': ['schema', 'base'], 'are_kinds': ['schema', 'thing']},
+    'merges': {'are_ways': ['schema', 'thing'], 'merged': ['schema', 'ways', 'base', 'copies'],
+               'fewest_breaking': ['schema', 'book', 'ways', 'base', 'copies']},
+    'looks': {'looks': ['schema', 'book'], 'own_looks': ['schema', 'book', 'table'],
+              'looks_into': ['schema', 'book', 'table', 'column'], 'looks_through': ['schema', 'book', 'kind']},
+    'histories': {'histories': TERMS + ['table'], 'is_history': TERMS + ['thing'], 'is_meeting': ['schema', 'book', 'thing'],
+                  'gives': TERMS + ['history', 'index', 'version'], 'fits': TERMS + ['history', 'column', 'meeting'],
+                  'is_case': TERMS + ['base', 'copies'], 'history_on': TERMS + ['base', 'copies', 'row']},
+    'left': {'rounds_of_histories': TERMS, 'histories_left': TERMS + ['table'], 'case_with': TERMS + ['history']},
+    'papers': {'is_paper': TERMS + ['thing'], 'paper': TERMS + ['history']},
+    'kept': {'is_kept': TERMS, 'kept_rules': TERMS, 'breach': TERMS + ['rule']},
+    'free': {'is_free': ['schema', 'book', 'ways', 'kinds'], 'greatest_free': ['schema', 'book', 'ways'],
+             'least_bad': ['schema', 'book', 'ways']},
 }
 
 BARRED = '''type typing enum Enum Flag IntFlag Generic Protocol ABC namedtuple TypedDict mro elements open input law register'''
@@ -62,6 +78,9 @@ class LanguageTest(unittest.TestCase):
         reached = {}
         for name, node in self.nodes(ast.Import, ast.ImportFrom):
             self.assertIsInstance(node, ast.ImportFrom, name)
+            if node.module in LIBRARY:
+                self.assertTrue(all(each.name in LIBRARY[node.module] and not each.asname for each in node.names), name)
+                continue
             self.assertEqual([node.level, node.module.partition('.')[0]], [0, 'rulesmerged'], name)
             other = node.module.partition('.')[2] + '.py'
             bound = []

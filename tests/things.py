@@ -2,6 +2,8 @@
 
 import random
 
+from tests import reference, reference_histories
+
 
 def nested(levels, kind):
     thing = kind()
@@ -125,3 +127,74 @@ def turned_round(thing):
 
 def new_dice():
     return random.Random(20)
+
+
+def random_tables(dice):
+    """Tables of a small schema, with few kinds, so that looks often lead somewhere."""
+    kinds, tables = dice.choice([('k',), ('k',), ('k', 'm')]), {}
+    for table in ('man', 'shop', 'town')[:dice.choice([1, 1, 2, 2, 3])]:
+        columns = tuple([(name, dice.choice(kinds)) for name in ('at', 'by', 'of')[:dice.choice([1, 1, 2, 2, 3])]])
+        tables[table] = (columns, ('old', 'open')[:dice.choice([0, 0, 1, 1, 1, 2])])
+    return tables
+
+
+def random_book(dice, tables, many_looks):
+    """A book with so many looks, but with one at most where a table has two flags."""
+    many_looks = min(many_looks, 1 if any(len(flags) > 1 for _, flags in tables.values()) else 2)
+    while True:
+        owners = [dice.choice(list(tables)) for _ in range(dice.choice([1, 1, 2, 2, 3]))]
+        book = [(table, random_condition(dice, tables, table, dice.choice([1, 2, 3]))) for table in owners]
+        if len(reference_histories.looks(book)) == many_looks:
+            return book
+
+
+def random_ways(dice, tables):
+    words = ('turned', 'on', 'off')
+    return {table: (dice.choice(('drop', 'keep')), tuple([dice.choice(words) for _ in tables[table][1]])) for table in tables}
+
+
+def random_lets(dice, tables):
+    part = dice.choice([0, 0.3, 0.6, 1])
+    lists = [[kind for kind in reference.changes(tables) if dice.random() < part] for _ in range(2)]
+    for kinds in lists:
+        dice.shuffle(kinds)
+    return (lists[0], list(lists[0]) if dice.random() < 0.3 else lists[1])
+
+
+def random_terms(dice, many_looks):
+    """Random tables, a book, ways and lets of them."""
+    tables = random_tables(dice)
+    return tables, random_book(dice, tables, many_looks), random_ways(dice, tables), random_lets(dice, tables)
+
+
+def random_let_copy(dice, tables, base, kinds):
+    """A copy that does no other kinds of changes than these."""
+    copy = {}
+    for table, (states, put) in random_copy(dice, tables, base, 2, 1).items():
+        own = []
+        for (_, flags), state in zip(base[table], states):
+            own.append(state if reference_histories.does_just(tables, table, flags, state, kinds) else flags)
+        copy[table] = (own, put if ('put', table) in kinds else [])
+    return copy
+
+
+def wrong_ones(thing, is_right):
+    """Odd objects and variations of a right one that are not right themselves."""
+    return [each for each in THINGS + list(variations(thing)) if not is_right(each)]
+
+
+def check_errors(test, call, arguments, faults, dice):
+    """Each wrong object gives its error, alone and beside wrong ones for errors that come later.
+
+    The faults are tuples (index of the argument, error, wrong objects) in the order in which the errors apply.
+    """
+    for place, (at, error, wrong) in enumerate(faults):
+        for thing in wrong:
+            for many in (0, 1, 2):
+                asked = list(arguments)
+                for later, _, others in dice.sample(faults[place + 1:], min(many, len(faults) - place - 1)):
+                    asked[later] = dice.choice(others)
+                asked[at] = thing
+                with test.assertRaises(error) as caught:
+                    call(*asked)
+                test.assertIs(type(caught.exception), error)
