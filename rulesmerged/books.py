@@ -52,6 +52,12 @@ class ReadBook:
         """The dict from the parts that are looks, in the order in which they begin first, to the looks."""
         return self._reading.looks()
 
+    def number(self, table, thing):
+        """The number of the part that a condition asked beside the book is; None for an object that is none."""
+        number = self._reading.number(table, thing)
+        self.parts = self._reading.all_parts()
+        return number
+
     def broken_in(self, view):
         """For each rule the mask of the rows of a view that break it."""
         told = all_told(view, self.parts)

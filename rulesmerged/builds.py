@@ -6,53 +6,55 @@ what their row histories say, and keep the rules where these keep them.
 """
 
 from rulesmerged.grounds import is_in
-from rulesmerged.moments import VERSIONS
 from rulesmerged.readings import place_to
-from rulesmerged.strikes import marked_histories
 
 
 class Build:
     """The rows of a case, as far as it is built."""
 
-    def __init__(self, terms, marks, strikes):
-        self._terms = terms
+    def __init__(self, schema, courses, marks, strikes):
+        self._schema = schema
+        self._courses = courses
         self._marks = marks
         self._strikes = strikes
         self._samples = {}
-        # For each table the tuples (row history, values) of the rows.
-        self._rows = {table: [] for table in terms.schema.tables}
+        # For each table the tuples (states, values) of the rows.
+        self._rows = {table: [] for table in schema.tables}
         # The values by (kind, number of the meeting), and for each kind the mask of the meetings that have a value.
         self._values, self._used = {}, {kind: 0 for kind in marks.meetings.known}
-        # What rows give, as (number of the meeting, index of the look, version), and the meetings not yet provided for.
+        # What rows give, as (number of the meeting, question), and the meetings not yet provided for.
         self._given, self._unmet = {}, []
 
-    def case_of(self, history):
-        """The tuple (base, copies, row) of a case and the name of a row of it that has a row history that is left."""
-        self._add(history, self._marks.mark(history), {})
+    def case_of(self, table, states, mark):
+        """The tuple (base, copies, row) of a case and the name of a row of it with a course and a mark that is left."""
+        self._add(table, states, mark, {})
         while self._unmet:
             kind, meeting = self._unmet.pop()
-            for index in self._marks.meetings.through[kind]:
-                for version in VERSIONS:
-                    self._give(meeting, index, version)
+            for question in self._marks.meetings.through[kind]:
+                self._give(meeting, question)
         base, copies = self._written()
         # It was added first, so it stands first among the rows beside it.
-        table, states, _ = history
         if states[0] is not None:
             return base, copies, (table, 0, 0)
         return base, copies, (table, 2 if states[1] is None else 1, 0)
 
-    def _add(self, history, mark, chosen):
-        """Adds a row with a row history; chosen tells the meeting of one of its columns, or of none."""
-        table, meetings = history[0], {}
-        for column, _ in self._terms.schema.columns(table):
+    def case_that_breaks(self, table, index):
+        """What case_of tells of any row that breaks the condition of its table with an index among those asked for."""
+        breaking = [mark for mark in self._strikes.left[table] if mark & self._marks.breach_bit(index)]
+        return self.case_of(table, self._sample(table, breaking[0]), breaking[0])
+
+    def _add(self, table, states, mark, chosen):
+        """Adds a row with a course and a mark; chosen tells the meeting of one of its columns, or of none."""
+        meetings = {}
+        for column, _ in self._schema.columns(table):
             meetings[column] = chosen[column] if column in chosen else self._fitting_meeting(table, column, mark)
-        values = [self._value(kind, meetings[column]) for column, kind in self._terms.schema.columns(table)]
-        self._rows[table].append((history, tuple(values)))
-        for index, part in enumerate(self._terms.moments.look_parts):
-            other, target = place_to(part)
-            for version in VERSIONS:
-                if other == table and mark & self._marks.gift_bit(index, version):
-                    self._given[(meetings[target], index, version)] = True
+        values = [self._value(kind, meetings[column]) for column, kind in self._schema.columns(table)]
+        self._rows[table].append((states, tuple(values)))
+        for questions in self._marks.meetings.through.values():
+            for question in questions:
+                other, target = place_to(question[0])
+                if other == table and mark & self._marks.gift_bit(question):
+                    self._given[(meetings[target], question)] = True
 
     def _fitting_meeting(self, table, column, mark):
         """The number of a good meeting that a row with a mark fits at a column, if there is one of one with a value."""
@@ -73,34 +75,33 @@ class Build:
                 self._unmet.append(key)
         return self._values[key]
 
-    def _give(self, meeting, index, version):
+    def _give(self, meeting, question):
         """Adds a row that gives a look in a version, if a meeting asks for it and no row gives it yet."""
-        if not is_in(meeting, self._marks.meetings.asking[(index, version)]):
+        if (meeting, question) in self._given or not is_in(meeting, self._marks.meetings.asking[question]):
             return
-        if (meeting, index, version) in self._given:
-            return
-        table, column = place_to(self._terms.moments.look_parts[index])
+        table, column = place_to(question[0])
         for mark in self._strikes.left[table]:
-            gives = mark & self._marks.gift_bit(index, version)
+            gives = mark & self._marks.gift_bit(question)
             if gives and is_in(meeting, self._marks.fitting(table, column, mark)):
-                self._add(self._sample(table, mark), mark, {column: meeting})
+                self._add(table, self._sample(table, mark), mark, {column: meeting})
                 return
 
     def _sample(self, table, mark):
-        """A row history of a table with a mark."""
+        """A course of a table of which a row history has a mark."""
         if table not in self._samples:
-            pairs = marked_histories(self._terms, self._marks, table)
-            self._samples[table] = {own: history for history, own in pairs}
+            self._samples[table] = {}
+            for states in self._courses.of_table(table):
+                for own in self._marks.of_course(table, states):
+                    self._samples[table][own] = states
         return self._samples[table][mark]
 
     def _written(self):
         """The tuple (base, copies) of the rows."""
-        tables = self._terms.schema.tables
+        tables = self._schema.tables
         base, copies = {table: [] for table in tables}, [{table: ([], []) for table in tables} for _ in (0, 1)]
         for table in tables:
             (first_states, first_put), (second_states, second_put) = copies[0][table], copies[1][table]
-            for history, values in self._rows[table]:
-                flags, first, second, _ = history[1]
+            for (flags, first, second, _), values in self._rows[table]:
                 if flags is not None:
                     base[table].append((values, flags))
                     first_states.append(first)

@@ -1,6 +1,6 @@
 """Copies of a base, and the kinds of changes that they do."""
 
-from rulesmerged.errors import InvalidCopy, InvalidLets
+from rulesmerged.errors import InvalidCopy, InvalidKinds, InvalidLets
 from rulesmerged.rows import are_bools, are_table_rows, check_rows
 from rulesmerged.schemas import has_just_tables
 
@@ -93,6 +93,12 @@ def are_kinds(schema, thing):
     if not isinstance(thing, list) or not all([schema.is_change(kind) for kind in thing]):
         return False
     return len(set(thing)) == len(thing)
+
+
+def check_kinds(schema, thing):
+    """Raises InvalidKinds for an object that is no list of different kinds of changes of a schema."""
+    if not are_kinds(schema, thing):
+        raise InvalidKinds("this is no list of different kinds of changes")
 
 
 def check_lets(schema, thing):

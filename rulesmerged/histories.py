@@ -4,7 +4,7 @@ from rulesmerged.books import read_book
 from rulesmerged.copies import are_copies, changes_done
 from rulesmerged.errors import InvalidCase, InvalidHistory, InvalidMeeting, InvalidNumber, UnknownColumn, UnknownRow
 from rulesmerged.grounds import all_told, is_in
-from rulesmerged.moments import MERGE, VERSIONS
+from rulesmerged.moments import MERGE, VERSIONS, moment_number
 from rulesmerged.readings import place_from, place_to
 from rulesmerged.rows import are_bools, are_rows, is_number
 from rulesmerged.spreads import Spread, state_in
@@ -48,23 +48,25 @@ def _is_meeting(schema, parts, thing):
 
 
 def _through(schema, parts, kind):
-    """The ascending list of the indexes of the looks of a kind."""
-    return [index for index, part in enumerate(parts) if schema.kind_at(place_from(part)) == kind]
+    """The list of the looks of a kind, in their order."""
+    return [part for part in parts if schema.kind_at(place_from(part)) == kind]
 
 
 def gives(schema, book, ways, lets, history, index, version):
     """Whether a row history gives the look with an index in a version."""
     terms = terms_of(schema, book, ways, lets)
     check_history(terms, history)
-    for number, many in ((index, len(terms.moments.look_parts)), (version, len(VERSIONS))):
+    for number, many in ((index, len(terms.looks)), (version, len(VERSIONS))):
         if not is_number(number) or number >= many:
             raise InvalidNumber("there is no such look or version")
-    return _gives(terms, history, index, version)
+    return _gives(terms, history, terms.looks[index], version)
 
 
-def _gives(terms, history, index, version):
+def _gives(terms, history, part, version):
     table, states, answers = history
-    return states[version] is not None and terms.moments.gives(table, index, states[version], answers[version])
+    if states[version] is None:
+        return False
+    return terms.versions[version].is_given(part, table, moment_number(states[version], answers[version]))
 
 
 def fits(schema, book, ways, lets, history, column, meeting):
@@ -73,26 +75,25 @@ def fits(schema, book, ways, lets, history, column, meeting):
     check_history(terms, history)
     if not schema.has_column(history[0], column):
         raise UnknownColumn("the table has no such column")
-    if not _is_meeting(schema, terms.moments.look_parts, meeting):
+    if not _is_meeting(schema, terms.looks, meeting):
         raise InvalidMeeting("this is no meeting")
     kind = schema.kind_of(history[0], column)
     if meeting[0] != kind:
         return False
-    through = _through(schema, terms.moments.look_parts, kind)
-    return all([_fits_at(terms, history, column, version, index, meeting[1][version][at])
-                for version in VERSIONS for at, index in enumerate(through)])
+    through = _through(schema, terms.looks, kind)
+    return all([_fits_at(terms, history, column, version, part, meeting[1][version][at])
+                for version in VERSIONS for at, part in enumerate(through)])
 
 
-def _fits_at(terms, history, column, version, index, answer):
+def _fits_at(terms, history, column, version, part, answer):
     """Whether a row history fits what a meeting answers to a look in a version, at a column of the look's kind."""
     table, states, answers = history
     if states[version] is None:
         return True
-    part = terms.moments.look_parts[index]
     if place_from(part) == (table, column):
-        if answers[version][terms.moments.own[table].index(index)] != answer:
+        if answers[version][terms.versions[version].own[table].index(part)] != answer:
             return False
-    return answer or place_to(part) != (table, column) or not _gives(terms, history, index, version)
+    return answer or place_to(part) != (table, column) or not _gives(terms, history, part, version)
 
 
 def is_case(schema, book, ways, lets, base, copies):
@@ -106,7 +107,7 @@ def _case_spread(terms, base, copies):
     if not are_rows(schema, base) or not are_copies(schema, base, copies) or len(copies) != 2:
         return None
     for copy in (0, 1):
-        if not terms.are_let(copy, changes_done(schema, base, copies[copy])):
+        if not terms.courses.are_let(copy, changes_done(schema, base, copies[copy])):
             return None
     spread = Spread(schema, terms.ways, base, copies)
     for version in VERSIONS:
@@ -124,13 +125,13 @@ def history_on(schema, book, ways, lets, base, copies, row):
     if not _is_row_of_case(schema, base, copies, row):
         raise UnknownRow("the case has no such row")
     table, source, index = row
-    own = [terms.moments.look_parts[look] for look in terms.moments.own[table]]
     at, states, answers = spread.index_of(table, source, index), [], []
     for chosen in VERSION_COPIES:
         view = spread.view(chosen)
         told = dict(zip(terms.read.parts, all_told(view, terms.read.parts)))
         states.append(state_in(view.there[table], [view.flag_mask(table, flag) for flag in schema.flags(table)], at))
-        answers.append(None if states[-1] is None else tuple([is_in(at, told[part]) for part in own]))
+        own = [is_in(at, told[part]) for part in terms.looks if part[0] == table]
+        answers.append(None if states[-1] is None else tuple(own))
     return (table, tuple(states), tuple(answers))
 
 

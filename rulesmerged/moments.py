@@ -1,4 +1,4 @@
-"""Moments: all that a row may be in one version, its flags and its answers to the looks of its table.
+"""Moments: all that a row may be in one version, its flags and its answers to the looks that are asked there.
 
 The moments of a table are numbered in the ascending order of the tuples flags + answers, so that conditions can be told
 of all of them at once, by masks of these numbers.
@@ -29,25 +29,22 @@ def moment_number(flags, answers):
 
 
 class Moments:
-    """The moments of all tables, for a book that was taken apart, and what its conditions are in them."""
+    """The moments of all tables in versions in which the rows answer some looks and keep some rules, perhaps none."""
 
-    def __init__(self, schema, read):
-        self.look_parts = list(read.looks())
+    def __init__(self, schema, parts, looks, rules):
+        self.looks = looks
         self.own, self.there, self._masks, self._answers = {}, {}, {}, {}
         for table in schema.tables:
-            own = [index for index, part in enumerate(self.look_parts) if part[0] == table]
-            names = [(table, flag) for flag in schema.flags(table)] + [self.look_parts[index] for index in own]
+            self.own[table] = [part for part in looks if part[0] == table]
+            names = [(table, flag) for flag in schema.flags(table)] + self.own[table]
             for at, name in enumerate(names):
                 self._masks[name] = bit_mask(len(names) - 1 - at, len(names))
-            self.own[table] = own
             self.there[table] = (1 << (1 << len(names))) - 1
-            self._answers[table] = bool_tuples(len(own))
-        self._told = all_told(self, read.parts)
-        # For each rule, its table and the moments that break it.
-        self.breaking = [(table, self.there[table] ^ self._told[number]) for table, number in read.rules]
+            self._answers[table] = bool_tuples(len(self.own[table]))
+        self._told = all_told(self, parts)
         self._allowed = {table: self.there[table] for table in self.there}
-        for table, mask in self.breaking:
-            self._allowed[table] &= ~mask
+        for table, number in rules:
+            self._allowed[table] &= self._told[number]
 
     def flag_mask(self, table, flag):
         """The moments of a table that have a flag."""
@@ -55,41 +52,38 @@ class Moments:
 
     def look_mask(self, part, _):
         """The moments in which a look is answered with True; here it does not hang on what it finds."""
-        return self._masks[part]
+        # Of conditions with looks that are not asked here nothing is told, so it does not matter what they are.
+        return self._masks.get(part, 0)
 
-    def answering(self, index):
-        """The moments, of the table whose rows look, in which a look is answered with True."""
-        return self._masks[self.look_parts[index]]
+    def is_met(self, number, moment):
+        """Whether a condition, by its number, is met in a moment of its table."""
+        return is_in(moment, self._told[number])
 
-    def giving(self, index):
-        """The moments, of the table to which a look leads, that meet its condition."""
-        return self._told[self.look_parts[index][5]]
+    def is_answered(self, part, moment):
+        """Whether a look is answered with True in a moment of the table whose rows look."""
+        return is_in(moment, self._masks[part])
 
-    def gives(self, table, index, flags, answers):
-        """Whether a row of a table gives a look in a version in which it has these flags and answers."""
-        other, _ = place_to(self.look_parts[index])
-        return other == table and is_in(moment_number(flags, answers), self.giving(index))
+    def is_given(self, part, table, moment):
+        """Whether a row of a table gives a look in a moment."""
+        other, _ = place_to(part)
+        return other == table and is_in(moment, self._told[part[5]])
 
-    def is_allowed(self, table, version, flags, answers):
-        """Whether the rules let a row of a table have these flags and answers in a version."""
-        return version == MERGE or is_in(moment_number(flags, answers), self._allowed[table])
+    def is_allowed(self, table, moment):
+        """Whether the rules let a row of a table have a moment."""
+        return is_in(moment, self._allowed[table])
 
-    def numbers(self, table, version, state):
-        """The ascending list of the moments that the rules let a row have in a version; [None] if it is not there."""
+    def allowed(self, table, state):
+        """The ascending list of the moments that the rules let a row have by its state; [None] if it is not there."""
         if state is None:
             return [None]
-        allowed = self.there[table] if version == MERGE else self._allowed[table]
         many = len(self._answers[table])
         first = moment_number(state, ()) * many
-        return [number for number in range(first, first + many) if is_in(number, allowed)]
+        return [number for number in range(first, first + many) if is_in(number, self._allowed[table])]
 
-    def all_answers(self, table, states):
-        """For each version the ascending list of the answers that the rules let a row have, by its states."""
-        found = []
-        for version, state in enumerate(states):
-            numbers = self.numbers(table, version, state)
-            found.append([None if number is None else self._answers_in(table, number) for number in numbers])
-        return found
+    def answers_of(self, table, state):
+        """The ascending list of the answers that the rules let a row have by its state; [None] if it is not there."""
+        numbers = self.allowed(table, state)
+        return [None if number is None else self._answers_in(table, number) for number in numbers]
 
     def _answers_in(self, table, number):
         return self._answers[table][number & (len(self._answers[table]) - 1)]

@@ -1,8 +1,7 @@
 """Papers: why row histories are struck, so that it can be checked round by round."""
 
 from rulesmerged.histories import check_history
-from rulesmerged.left import rounds_in
-from rulesmerged.marks import Marks
+from rulesmerged.left import Outcome, marks_of
 from rulesmerged.rows import is_number
 from rulesmerged.terms import terms_of
 
@@ -20,7 +19,7 @@ def is_paper(schema, book, ways, lets, thing):
 
 def _is_right(terms, numbers):
     """Whether each row history of a dict would be struck if just those with lesser numbers had been struck."""
-    marks = Marks(terms.schema, terms.moments)
+    marks = marks_of(terms)
     many, by_number = _many_by_mark(terms, marks), {}
     for history, number in numbers.items():
         by_number.setdefault(number, []).append((history[0], marks.mark(history)))
@@ -48,7 +47,7 @@ def _many_by_mark(terms, marks):
     found = {}
     for table in terms.schema.tables:
         found[table] = {}
-        for states in terms.courses(table):
+        for states in terms.courses.of_table(table):
             for mark in marks.of_course(table, states):
                 found[table][mark] = found[table].get(mark, 0) + 1
     return found
@@ -58,7 +57,7 @@ def paper(schema, book, ways, lets, history):
     """A paper in which a row history is, or None if it is left."""
     terms = terms_of(schema, book, ways, lets)
     check_history(terms, history)
-    rounds = rounds_in(terms)
+    rounds = Outcome(terms).rounds()
     if history not in rounds:
         return None
     # Those of the same round and of later ones are not needed.

@@ -15,6 +15,26 @@ def place_to(part):
     return (part[3], part[4])
 
 
+def looks_within(parts, numbers):
+    """The list of the parts that are looks in the conditions with some numbers, also within other looks."""
+    wanted = [False] * len(parts)
+    for number in numbers:
+        wanted[number] = True
+    # What stands in a condition has a lesser number than it.
+    for number in range(len(parts) - 1, -1, -1):
+        if wanted[number]:
+            for inner in _inner_numbers(parts[number]):
+                wanted[inner] = True
+    return [part for part, is_wanted in zip(parts, wanted) if is_wanted and part[1] == "has"]
+
+
+def _inner_numbers(part):
+    """The numbers of the conditions that stand directly in a part."""
+    if part[1] == "has":
+        return part[5:]
+    return () if part[1] == "flag" else part[2:]
+
+
 class Reading:
     """The parts of the conditions that it was asked to number: equal ones once, each behind the parts in it."""
 

@@ -4,76 +4,31 @@ from itertools import product
 
 from rulesmerged.books import read_book
 from rulesmerged.copies import check_lets
+from rulesmerged.courses import Courses
 from rulesmerged.merges import check_ways
-from rulesmerged.moments import VERSIONS, Moments, bool_tuples
+from rulesmerged.moments import VERSIONS, Moments, moment_number
 from rulesmerged.rows import are_bools
-from rulesmerged.spreads import merged_states
-
-
-def _put_course(copy, flags):
-    """The states, in the four versions, of a row that a copy, 0 or 1, put."""
-    return (None, flags, None, flags) if copy == 0 else (None, None, flags, flags)
 
 
 class Terms:
-    """A schema, a book that was taken apart, its moments, ways, and the kinds let to the first and the second copy."""
+    """A schema, a book that was taken apart, and ways and lets, told by courses; with all row histories of these."""
 
-    def __init__(self, schema, read, moments, ways, lets):
+    def __init__(self, schema, read, ways, lets):
         self.schema = schema
         self.read = read
-        self.moments = moments
         self.ways = ways
-        self._lets = [{kind: True for kind in kinds} for kinds in lets]
-        self._courses = {}
-
-    def are_let(self, copy, kinds):
-        """Whether some kinds of changes are all let to a copy, 0 or 1."""
-        return all([kind in self._lets[copy] for kind in kinds])
-
-    def _reach(self, copy, table, flags):
-        """The ascending list of the states that a row of the base may have in a copy."""
-        reach = [()]
-        for at, flag in enumerate(self.schema.flags(table)):
-            turn = ("off" if flags[at] else "on", table, flag)
-            ends = (False, True) if turn in self._lets[copy] else (flags[at],)
-            reach = [each + (end,) for each in reach for end in ends]
-        return [None] + reach if ("drop", table) in self._lets[copy] else reach
-
-    def courses(self, table):
-        """The ascending list of the courses of a table: the states that a row may have in the four versions."""
-        if table not in self._courses:
-            self._courses[table] = self._put_courses(table) + self._kept_courses(table)
-        return self._courses[table]
-
-    def _put_courses(self, table):
-        own = bool_tuples(len(self.schema.flags(table)))
-        return [_put_course(copy, flags) for copy in (1, 0) if ("put", table) in self._lets[copy] for flags in own]
-
-    def _kept_courses(self, table):
-        """The courses of rows of the base."""
-        copied = []
-        for flags in bool_tuples(len(self.schema.flags(table))):
-            reach = [self._reach(copy, table, flags) for copy in (0, 1)]
-            copied.extend([(flags, first, second) for first in reach[0] for second in reach[1]])
-        base, first, second = [list(states) for states in zip(*copied)]
-        ends = merged_states(self.ways[table], base, [first, second])
-        return [states + (end,) for states, end in zip(copied, ends)]
-
-    def _is_course(self, table, states):
-        base, first, second, last = states
-        if base is None:
-            copy = 0 if second is None else 1
-            return last is not None and ("put", table) in self._lets[copy] and states == _put_course(copy, last)
-        if first not in self._reach(0, table, base) or second not in self._reach(1, table, base):
-            return False
-        return merged_states(self.ways[table], [base], [[first], [second]]) == [last]
+        self.courses = Courses(schema, ways, lets)
+        self.looks = list(read.looks())
+        kept = Moments(schema, read.parts, self.looks, read.rules)
+        self.versions = [kept, kept, kept, Moments(schema, read.parts, self.looks, [])]
 
     def histories(self, table):
         """The ascending list of the row histories of a table."""
         found = []
-        for states in self.courses(table):
-            first, second, third, last = self.moments.all_answers(table, states)
-            found.extend([(table, states, answers) for answers in product(first, second, third, last)])
+        for states in self.courses.of_table(table):
+            answers = [moments.answers_of(table, state) for moments, state in zip(self.versions, states)]
+            first, second, third, last = answers
+            found.extend([(table, states, chosen) for chosen in product(first, second, third, last)])
         return found
 
     def has_history(self, thing):
@@ -87,16 +42,17 @@ class Terms:
         for version in VERSIONS:
             if not self._is_moment(table, version, states[version], answers[version]):
                 return False
-        return self._is_course(table, states)
+        return self.courses.is_course(table, states)
 
     def _is_moment(self, table, version, state, answers):
         """Whether objects are the flags and the answers of a row in a version, both None if it is not there."""
         if state is None:
             return answers is None
+        moments = self.versions[version]
         _, many_flags = self.schema.sizes(table)
-        if not are_bools(state, many_flags) or not are_bools(answers, len(self.moments.own[table])):
+        if not are_bools(state, many_flags) or not are_bools(answers, len(moments.own[table])):
             return False
-        return self.moments.is_allowed(table, version, state, answers)
+        return moments.is_allowed(table, moment_number(state, answers))
 
 
 def terms_of(schema, book, ways, lets):
@@ -104,4 +60,4 @@ def terms_of(schema, book, ways, lets):
     read = read_book(schema, book)
     check_ways(schema, ways)
     check_lets(schema, lets)
-    return Terms(schema, read, Moments(schema, read), ways, lets)
+    return Terms(schema, read, ways, lets)

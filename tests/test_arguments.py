@@ -4,7 +4,8 @@ import copy
 import inspect
 import unittest
 
-from rulesmerged import books, conditions, copies, free, histories, kept, left, looks, merges, papers, rows, schemas, texts
+from rulesmerged import (books, conditions, copies, free, held, histories, kept, left, looks, meeting, merges, papers, rows,
+                         schemas, texts, ways)
 from tests import reference_histories
 from tests.things import ROWS, TABLES, turned_round
 
@@ -42,7 +43,10 @@ CALLS = [
     (left.histories_left, TERMS + ['shop']), (left.case_with, TERMS + [HISTORY]), (papers.is_paper, TERMS + [{STRUCK: 1}]),
     (papers.paper, TERMS + [STRUCK]), (kept.is_kept, TERMS), (kept.kept_rules, TERMS),
     (kept.breach, TERMS + [0]), (free.is_free, FREE + [[('put', 'man'), ('drop', 'man')]]), (free.greatest_free, FREE),
-    (free.least_bad, FREE),
+    (free.least_bad, FREE), (held.is_enough, FREE + [[('put', 'man'), ('drop', 'man')], [('drop', 'man')]]),
+    (held.least_held, FREE + [[('put', 'man'), ('drop', 'man')]]), (held.greatest_idle, TERMS[:3] + [[('put', 'shop'), ('drop', 'town')]]),
+    (ways.all_ways, FREE[:1]), (ways.good_ways, FREE[:2] + [[('put', 'man'), ('drop', 'man')]]),
+    (meeting.always, TERMS + ['town', CONDITION]), (meeting.case_against, TERMS + ['town', CONDITION]),
     (schemas.Schema, [TABLES]), (rows.are_rows, [SCHEMA, ROWS]), (rows.rows_at, [SCHEMA, ROWS, 'town', 'of', 2]),
     (rows.beside, [SCHEMA, ROWS, ROWS]), (conditions.is_condition, [SCHEMA, 'town', CONDITION]),
     (conditions.meets, [SCHEMA, ROWS, 'town', 0, CONDITION]), (conditions.depth, [CONDITION]),

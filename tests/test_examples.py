@@ -150,6 +150,39 @@ FREE = '''
 True
 '''
 
+HELD = '''
+>>> from rulesmerged.held import greatest_idle, is_enough, least_held
+>>> from rulesmerged.schemas import Schema
+>>> schema = Schema({'shop': ((('at', 'town'),), ()), 'town': ((('id', 'town'),), ())})
+>>> book, ways = [('shop', ('has', 'at', 'town', 'id', ('yes',)))], {'shop': ('drop', ()), 'town': ('drop', ())}
+>>> [least_held(schema, book, ways, [('drop', 'town'), ('put', 'town')]), least_held(schema, book, ways, [('drop', 'town'), ('put', 'shop')])]
+[[[('drop', 'town')]], []]
+>>> [is_enough(schema, book, ways, [('drop', 'shop')], []), greatest_idle(schema, book, ways, [('drop', 'town'), ('put', 'town')])]
+[True, [[('put', 'town')]]]
+'''
+
+WAYS = '''
+>>> from rulesmerged.schemas import Schema
+>>> from rulesmerged.ways import all_ways, good_ways
+>>> schema = Schema({'town': ((('id', 'town'),), ('old',))})
+>>> all_ways(schema)
+[{'town': ('drop', ('off',))}, {'town': ('drop', ('on',))}, {'town': ('drop', ('turned',))}, {'town': ('keep', ('off',))}, {'town': ('keep', ('on',))}, {'town': ('keep', ('turned',))}]
+>>> len(good_ways(schema, [('town', ('has', 'id', 'town', 'id', ('flag', 'old')))], [('drop', 'town')]))
+3
+'''
+
+MEETING = '''
+>>> from rulesmerged.meeting import always, case_against
+>>> from rulesmerged.schemas import Schema
+>>> schema = Schema({'town': ((('id', 'town'),), ('busy', 'shut'))})
+>>> both, ways = ('and', ('flag', 'busy'), ('flag', 'shut')), {'town': ('drop', ('off', 'turned'))}
+>>> lets = ([('on', 'town', 'busy')], [('on', 'town', 'shut')])
+>>> [always(schema, [('town', ('not', both))], ways, lets, 'town', ('not', both)), case_against(schema, [], ways, lets, 'town', ('yes',)) is None]
+[True, True]
+>>> always(schema, [('town', ('not', both))], {'town': ('drop', ('turned', 'turned'))}, lets, 'town', ('not', both))
+False
+'''
+
 
 class ExamplesTest(unittest.TestCase):
     def run_examples(self, text):
@@ -210,6 +243,15 @@ class ExamplesTest(unittest.TestCase):
 
     def test_free(self):
         self.run_examples(FREE)
+
+    def test_held(self):
+        self.run_examples(HELD)
+
+    def test_ways(self):
+        self.run_examples(WAYS)
+
+    def test_meeting(self):
+        self.run_examples(MEETING)
 
     def test_readme(self):
         told = doctest.testfile('../README.md')

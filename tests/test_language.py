@@ -39,6 +39,10 @@ MODULES = {
     'left': {'rounds_of_histories': TERMS, 'histories_left': TERMS + ['table'], 'case_with': TERMS + ['history']},
     'papers': {'is_paper': TERMS + ['thing'], 'paper': TERMS + ['history']},
     'kept': {'is_kept': TERMS, 'kept_rules': TERMS, 'breach': TERMS + ['rule']},
+    'held': {'is_enough': ['schema', 'book', 'ways', 'kinds', 'held'], 'least_held': ['schema', 'book', 'ways', 'kinds'],
+             'greatest_idle': ['schema', 'book', 'ways', 'kinds']},
+    'ways': {'all_ways': ['schema'], 'good_ways': ['schema', 'book', 'kinds']},
+    'meeting': {'always': TERMS + ['table', 'condition'], 'case_against': TERMS + ['table', 'condition']},
     'free': {'is_free': ['schema', 'book', 'ways', 'kinds'], 'greatest_free': ['schema', 'book', 'ways'],
              'least_bad': ['schema', 'book', 'ways']},
 }

@@ -198,3 +198,14 @@ def check_errors(test, call, arguments, faults, dice):
                 with test.assertRaises(error) as caught:
                     call(*asked)
                 test.assertIs(type(caught.exception), error)
+
+
+def random_asked(dice):
+    """What random_terms tells, and a table and a condition of it, with not too many looks in all."""
+    tables, book, ways, lets = random_terms(dice, dice.choice([0, 0, 1, 1, 2]))
+    most = 1 if any(len(flags) > 1 for _, flags in tables.values()) else 2
+    while True:
+        table = dice.choice(list(tables))
+        condition = random_condition(dice, tables, table, dice.choice([1, 2, 3]))
+        if len(reference_histories.looks(book + [(table, condition)])) <= most:
+            return tables, book, ways, lets, table, condition
