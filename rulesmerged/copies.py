@@ -43,6 +43,11 @@ def check_copy(schema, base, thing):
 def copy_rows(schema, base, copy):
     """The rows of a copy of a base."""
     check_copy(schema, base, copy)
+    return rows_in(schema, base, copy)
+
+
+def rows_in(schema, base, copy):
+    """What copy_rows tells, of what surely is a copy of a base."""
     return {table: _table_rows(base[table], copy[table]) for table in schema.tables}
 
 

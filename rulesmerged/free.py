@@ -33,9 +33,11 @@ def is_free(schema, book, ways, kinds):
 
 def greatest_free(schema, book, ways):
     """The ascending list of the ascending lists of kinds that are free, but not with any further kind."""
-    return Subsets(schema.changes, Freedom(schema, book, ways).is_bad).greatest_without()
+    freedom = Freedom(schema, book, ways)
+    return Subsets(schema.changes, freedom.is_bad).greatest_without()
 
 
 def least_bad(schema, book, ways):
     """The ascending list of the ascending lists of kinds that are not free, but are if any of them is left out."""
-    return Subsets(schema.changes, Freedom(schema, book, ways).is_bad).least()
+    freedom = Freedom(schema, book, ways)
+    return Subsets(schema.changes, freedom.is_bad).least()

@@ -56,10 +56,10 @@ def gives(schema, book, ways, lets, history, index, version):
     """Whether a row history gives the look with an index in a version."""
     terms = terms_of(schema, book, ways, lets)
     check_history(terms, history)
-    for number, many in ((index, len(terms.looks)), (version, len(VERSIONS))):
+    for number, many in ((index, len(terms.look_parts)), (version, len(VERSIONS))):
         if not is_number(number) or number >= many:
             raise InvalidNumber("there is no such look or version")
-    return _gives(terms, history, terms.looks[index], version)
+    return _gives(terms, history, terms.look_parts[index], version)
 
 
 def _gives(terms, history, part, version):
@@ -75,12 +75,12 @@ def fits(schema, book, ways, lets, history, column, meeting):
     check_history(terms, history)
     if not schema.has_column(history[0], column):
         raise UnknownColumn("the table has no such column")
-    if not _is_meeting(schema, terms.looks, meeting):
+    if not _is_meeting(schema, terms.look_parts, meeting):
         raise InvalidMeeting("this is no meeting")
     kind = schema.kind_of(history[0], column)
     if meeting[0] != kind:
         return False
-    through = _through(schema, terms.looks, kind)
+    through = _through(schema, terms.look_parts, kind)
     return all([_fits_at(terms, history, column, version, part, meeting[1][version][at])
                 for version in VERSIONS for at, part in enumerate(through)])
 
@@ -130,7 +130,7 @@ def history_on(schema, book, ways, lets, base, copies, row):
         view = spread.view(chosen)
         told = dict(zip(terms.read.parts, all_told(view, terms.read.parts)))
         states.append(state_in(view.there[table], [view.flag_mask(table, flag) for flag in schema.flags(table)], at))
-        own = [is_in(at, told[part]) for part in terms.looks if part[0] == table]
+        own = [is_in(at, told[part]) for part in terms.look_parts if part[0] == table]
         answers.append(None if states[-1] is None else tuple(own))
     return (table, tuple(states), tuple(answers))
 

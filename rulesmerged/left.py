@@ -13,7 +13,8 @@ class Outcome:
     def __init__(self, terms):
         self._terms = terms
         self._marks = marks_of(terms)
-        self._strikes = Strikes(terms.courses, self._marks)
+        self._strikes = Strikes(terms.courses, self._marks, terms.schema.tables)
+        self._strikes.strike_all()
 
     def _marked(self, table):
         """The ascending list of the tuples (row history, mark) of a table."""
@@ -21,15 +22,17 @@ class Outcome:
         marks = [mark for states in courses for mark in self._marks.of_course(table, states)]
         return list(zip(self._terms.histories(table), marks))
 
-    def rounds(self):
+    def all_rounds(self):
         """The dict from the row histories that are struck to the numbers of their rounds."""
         rounds = {}
         for table, numbers in self._strikes.rounds.items():
             if numbers:
-                rounds.update({history: numbers[mark] for history, mark in self._marked(table) if mark in numbers})
+                for history, mark in self._marked(table):
+                    if mark in numbers:
+                        rounds[history] = numbers[mark]
         return rounds
 
-    def left(self, table):
+    def left_of(self, table):
         """The ascending list of the row histories of a table that are left."""
         return [history for history, mark in self._marked(table) if mark not in self._strikes.rounds[table]]
 
@@ -49,14 +52,14 @@ def marks_of(terms):
 
 def rounds_of_histories(schema, book, ways, lets):
     """The dict from the row histories that are struck to the numbers of their rounds."""
-    return Outcome(terms_of(schema, book, ways, lets)).rounds()
+    return Outcome(terms_of(schema, book, ways, lets)).all_rounds()
 
 
 def histories_left(schema, book, ways, lets, table):
     """The ascending list of the row histories of a table that are left."""
     terms = terms_of(schema, book, ways, lets)
     schema.check_table(table)
-    return Outcome(terms).left(table)
+    return Outcome(terms).left_of(table)
 
 
 def case_with(schema, book, ways, lets, history):

@@ -44,8 +44,8 @@ class Marks:
         self._versions = versions
         self._asked = asked
         self._deeds = deeds
-        self._added = {}
-        questions = [(part, version) for version, moments in enumerate(versions) for part in moments.looks]
+        self._added, self._of_courses = {}, {}
+        questions = [(part, version) for version, moments in enumerate(versions) for part in moments.look_parts]
         self.meetings = Meetings(schema, questions)
         self._gift_bits = {question: 1 << bit for bit, question in enumerate(questions)}
         self._first_breach_bit = 1 << len(questions)
@@ -87,8 +87,12 @@ class Marks:
 
     def of_course(self, table, states):
         """The list of the marks of the row histories with a course, in the ascending order of these."""
-        first, second, third, last = [self._marks_from(table, version, state) for version, state in enumerate(states)]
-        return [one | two | three | four for one, two, three, four in product(first, second, third, last)]
+        key = (table, states)
+        if key not in self._of_courses:
+            first, second, third, last = [self._marks_from(table, at, state) for at, state in enumerate(states)]
+            found = [one | two | three | four for one, two, three, four in product(first, second, third, last)]
+            self._of_courses[key] = found
+        return self._of_courses[key]
 
     def _marks_from(self, table, version, state):
         """What a row's moments in a version, and behind the merge those in the later ones, may add to its mark."""
@@ -126,7 +130,7 @@ class Marks:
         moments = self._versions[version]
         for column, (kind, start) in self.fields[table].items():
             mark |= self._refused((table, column), kind, version, number) << start
-        for part in moments.looks:
+        for part in moments.look_parts:
             if moments.is_given(part, table, number):
                 mark |= self.gift_bit((part, version))
         if version == len(self._versions) - 1:

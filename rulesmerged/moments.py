@@ -32,7 +32,7 @@ class Moments:
     """The moments of all tables in versions in which the rows answer some looks and keep some rules, perhaps none."""
 
     def __init__(self, schema, parts, looks, rules):
-        self.looks = looks
+        self.look_parts = looks
         self.own, self.there, self._masks, self._answers = {}, {}, {}, {}
         for table in schema.tables:
             self.own[table] = [part for part in looks if part[0] == table]

@@ -57,7 +57,7 @@ def paper(schema, book, ways, lets, history):
     """A paper in which a row history is, or None if it is left."""
     terms = terms_of(schema, book, ways, lets)
     check_history(terms, history)
-    rounds = Outcome(terms).rounds()
+    rounds = Outcome(terms).all_rounds()
     if history not in rounds:
         return None
     # Those of the same round and of later ones are not needed.

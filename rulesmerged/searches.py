@@ -24,10 +24,18 @@ class Search:
             versions.append(Moments(schema, parts, looks_within(parts, [number]), []))
         versions.append(Moments(schema, parts, looks_within(parts, [number for _, number in asked]), []))
         self._marks = Marks(schema, versions, asked, deeds)
+        asked_tables = [table for table, _ in asked]
+        self._tables = [table for table in schema.tables if table in asked_tables or self._marks.fields[table]]
+
+    def _struck(self, courses):
+        """What is left of the row histories that matter, as far as something that is asked is broken by that."""
+        strikes = Strikes(courses, self._marks, self._tables)
+        strikes.strike_while_broken()
+        return strikes
 
     def broken(self, ways, lets):
         """The ascending list of the indexes of the conditions, of those asked, that some row of some case breaks."""
-        return Strikes(Courses(self._schema, ways, lets), self._marks).broken()
+        return self._struck(Courses(self._schema, ways, lets)).broken()
 
     def is_met(self, ways, lets):
         """Whether all rows meet what is asked, in all cases."""
@@ -36,7 +44,7 @@ class Search:
     def case(self, ways, lets):
         """A tuple (base, copies, row) of a case and the name of a row that breaks what is asked, or None."""
         courses = Courses(self._schema, ways, lets)
-        strikes = Strikes(courses, self._marks)
+        strikes = self._struck(courses)
         broken = strikes.broken()
         if not broken:
             return None

@@ -2,29 +2,44 @@
 
 
 class Strikes:
-    """Which marks of the row histories of courses are struck, in which rounds, and which are left."""
+    """Which marks of the row histories of some tables are struck, in which rounds, and which are left so far."""
 
-    def __init__(self, courses, marks):
+    def __init__(self, courses, marks, tables):
         self._marks = marks
+        self._number = 0
         self.left, self.rounds = {}, {}
-        for table in marks.fields:
+        # For each kind of columns the mask of the meetings that were good in the last round.
+        self.good = {}
+        for table in tables:
             found = {}
             for states in courses.of_table(table):
                 found.update({mark: True for mark in marks.of_course(table, states)})
             self.left[table], self.rounds[table] = list(found), {}
-        number, self.good = 1, marks.good_meetings(self.left)
-        while self._strike(number):
-            number, self.good = number + 1, marks.good_meetings(self.left)
 
-    def _strike(self, number):
-        """Strikes what is struck in the round with a number; returns whether that is something."""
-        many = 0
+    def _strike_once(self):
+        """Strikes what is struck in the next round; returns whether that is something."""
+        self._number, many = self._number + 1, 0
+        self.good = self._marks.good_meetings(self.left)
         for table in list(self.left):
-            struck = {mark: number for mark in self.left[table] if self._marks.is_struck(table, mark, self.good)}
-            self.left[table] = [mark for mark in self.left[table] if mark not in struck]
-            self.rounds[table].update(struck)
-            many += len(struck)
+            left, struck = [], self.rounds[table]
+            for mark in self.left[table]:
+                if self._marks.is_struck(table, mark, self.good):
+                    struck[mark] = self._number
+                else:
+                    left.append(mark)
+            many += len(self.left[table]) - len(left)
+            self.left[table] = left
         return many > 0
+
+    def strike_all(self):
+        """Strikes, round by round, all that is struck."""
+        while self._strike_once():
+            pass
+
+    def strike_while_broken(self):
+        """Strikes all that is struck, or as long as something that is asked for is broken by what is left."""
+        while self.broken() and self._strike_once():
+            pass
 
     def broken(self):
         """The ascending list of the indexes of the conditions, of those asked for, that marks that are left break."""

@@ -7,10 +7,14 @@ class Subsets:
     def __init__(self, things, holds):
         self._things = things
         # By the numbers of the lists, in which bit i is set for the thing with index i.
-        self._told = [] if holds(things) else [False] * (1 << len(things))
-        for number in range(len(self._told), 1 << len(things)):
-            holds_of_fewer = any([self._told[fewer] for fewer in self._with_fewer(number)])
-            self._told.append(holds_of_fewer or holds(self._chosen(number)))
+        self._told = [False] * (1 << len(things))
+        if holds(things):
+            for number in range(1 << len(things)):
+                self._told[number] = self._is_told(self._with_fewer(number)) or holds(self._chosen(number))
+
+    def _is_told(self, numbers):
+        """Whether it holds of the list with one of some numbers."""
+        return any([self._told[number] for number in numbers])
 
     def _chosen(self, number):
         return [thing for at, thing in enumerate(self._things) if number >> at & 1]
@@ -27,10 +31,6 @@ class Subsets:
         """The ascending list of the lists of which it holds, but not if any thing is left out."""
         numbers = [number for number, holds in enumerate(self._told) if holds]
         return sorted([self._chosen(number) for number in numbers if not self._is_told(self._with_fewer(number))])
-
-    def _is_told(self, numbers):
-        """Whether it holds of the list with one of the numbers."""
-        return any([self._told[number] for number in numbers])
 
     def greatest_without(self):
         """The ascending list of the lists of which it does not hold, but does with any further thing."""

@@ -18,9 +18,9 @@ class Terms:
         self.read = read
         self.ways = ways
         self.courses = Courses(schema, ways, lets)
-        self.looks = list(read.looks())
-        kept = Moments(schema, read.parts, self.looks, read.rules)
-        self.versions = [kept, kept, kept, Moments(schema, read.parts, self.looks, [])]
+        self.look_parts = list(read.looks())
+        kept = Moments(schema, read.parts, self.look_parts, read.rules)
+        self.versions = [kept, kept, kept, Moments(schema, read.parts, self.look_parts, [])]
 
     def histories(self, table):
         """The ascending list of the row histories of a table."""

@@ -4,10 +4,10 @@ import copy
 import inspect
 import unittest
 
-from rulesmerged import (books, conditions, copies, free, held, histories, kept, left, looks, meeting, merges, papers, rows,
-                         schemas, texts, ways)
+from rulesmerged import (books, conditions, copies, errors, free, held, histories, kept, left, looks, meeting, mending, merges, needed,
+                         papers, rows, schemas, shell, stores, texts, ways)
 from tests import reference_histories
-from tests.things import ROWS, TABLES, turned_round
+from tests.things import ROWS, TABLES, new_dice, turned_round
 
 SCHEMA = schemas.Schema(TABLES)
 CONDITION = ('or', ('has', 'id', 'shop', 'at', ('flag', 'open')), ('not', ('flag', 'old')))
@@ -30,6 +30,7 @@ HISTORY = ('shop', (None, (False,), None, (False,)), (None, (True,), None, (Fals
 STRUCK = ('shop', ((False,), (True,), (False,), (False,)), ((True,), (True,), (True,), (False,)))
 MEETING = ('town', ((True,), (True,), (True,), (False,)))
 FREE = [schemas.Schema({'man': TABLES['man']}), [('man', ('has', 'id', 'man', 'id', ('yes',)))], {'man': ('drop', ())}]
+SCRIPT = [('set', 'town', 'old', ('has', 'id', 'shop', 'at', ('yes',))), ('drop', 'shop', ('not', AT[0][1]))]
 
 CALLS = [
     (merges.are_ways, [SCHEMA, WAYS]), (merges.merged, [SCHEMA, WAYS, BASE, [FIRST, SECOND]]),
@@ -46,6 +47,9 @@ CALLS = [
     (free.least_bad, FREE), (held.is_enough, FREE + [[('put', 'man'), ('drop', 'man')], [('drop', 'man')]]),
     (held.least_held, FREE + [[('put', 'man'), ('drop', 'man')]]), (held.greatest_idle, TERMS[:3] + [[('put', 'shop'), ('drop', 'town')]]),
     (ways.all_ways, FREE[:1]), (ways.good_ways, FREE[:2] + [[('put', 'man'), ('drop', 'man')]]),
+    (needed.least_rules, [SCHEMA, AT + BOOK] + TERMS[2:] + ['shop', AT[0][1]]),
+    (needed.greatest_spoilers, [SCHEMA, AT + BOOK] + TERMS[2:] + ['town', ('flag', 'old')]), (mending.is_script, [SCHEMA, SCRIPT]),
+    (mending.done, [SCHEMA, ROWS, SCRIPT]), (mending.does_mend, TERMS + [SCRIPT[1:]]), (mending.case_unmended, TERMS + [SCRIPT[:1]]),
     (meeting.always, TERMS + ['town', CONDITION]), (meeting.case_against, TERMS + ['town', CONDITION]),
     (schemas.Schema, [TABLES]), (rows.are_rows, [SCHEMA, ROWS]), (rows.rows_at, [SCHEMA, ROWS, 'town', 'of', 2]),
     (rows.beside, [SCHEMA, ROWS, ROWS]), (conditions.is_condition, [SCHEMA, 'town', CONDITION]),
@@ -89,6 +93,42 @@ class ArgumentsTest(unittest.TestCase):
             self.assertEqual(call(*[turned_round(each) for each in arguments]), told, call.__name__)
             if isinstance(told, dict):
                 self.assertEqual(list(told), sorted(told, key=reference_histories.order))
+
+    def test_objects_of_classes_copy_what_they_are_passed(self):
+        tables, book, ways, kinds = copy.deepcopy((TABLES, AT, WAYS, SCHEMA.changes))
+        schema = schemas.Schema(tables)
+        tables.clear()
+        store = stores.Store(schema, book, ways, kinds)
+        for each in (book, ways, kinds):
+            each.clear()
+        self.assertEqual(schema, SCHEMA)
+        store.begin('a')
+        store.put('a', 'shop', (1, 1), (True,))
+        with self.assertRaises(errors.BookBroken):
+            store.merge(['a'])
+
+    def test_questions_asked_in_turns_are_answered_as_of_fresh_objects(self):
+        dice = new_dice()
+        asked = [dice.choice(CALLS) for _ in range(400)]
+        shared, told = schemas.Schema(turned_round(TABLES)), []
+        for call, arguments in asked:
+            own = [shared if each is SCHEMA else each for each in arguments]
+            fresh = [schemas.Schema(TABLES) if each is SCHEMA else copy.deepcopy(each) for each in arguments]
+            answer = call(*own)
+            self.assertEqual(answer, call(*fresh), call.__name__)
+            # What becomes of an answer means nothing to later ones.
+            for each in lists_and_dicts(answer):
+                each.clear()
+            told.append(call.__name__)
+        self.assertGreater(len(set(told)), 50)
+
+    def test_a_shell_asked_in_turns(self):
+        lines = ['open a table,t/column,c,k - drop put.t', 'begin a x', 'put a x t 1 -', 'show a x t', 'merge a x', 'show a t', 'stores', 'undo a']
+        first, second = shell.Shell(), shell.Shell()
+        told = [first.run(line) for line in lines]
+        self.assertEqual([second.run(line) for line in lines[:3]], told[:3])
+        first.run('close a')
+        self.assertEqual([second.run(line) for line in lines[3:]], told[3:])
 
     def test_lists_and_dicts_are_new_and_stand_once(self):
         for call, arguments in CALLS:

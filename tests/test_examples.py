@@ -183,6 +183,52 @@ MEETING = '''
 False
 '''
 
+NEEDED = '''
+>>> from rulesmerged.needed import greatest_spoilers, least_rules
+>>> from rulesmerged.schemas import Schema
+>>> schema = Schema({'town': ((('id', 'town'),), ('busy', 'shut'))})
+>>> book = [('town', ('flag', 'busy')), ('town', ('or', ('flag', 'busy'), ('flag', 'shut'))), ('town', ('not', ('flag', 'shut')))]
+>>> ways, lets = {'town': ('drop', ('turned', 'turned'))}, ([('put', 'town')], [('put', 'town')])
+>>> [least_rules(schema, book, ways, lets, 'town', ('flag', 'busy')), greatest_spoilers(schema, book, ways, lets, 'town', ('flag', 'busy'))]
+[[[0], [1, 2]], [[1], [2]]]
+'''
+
+MENDING = '''
+>>> from rulesmerged.mending import does_mend, done
+>>> from rulesmerged.schemas import Schema
+>>> schema = Schema({'shop': ((('at', 'town'),), ()), 'town': ((('id', 'town'),), ())})
+>>> book, ways = [('shop', ('has', 'at', 'town', 'id', ('yes',)))], {'shop': ('drop', ()), 'town': ('drop', ())}
+>>> lets, script = ([('put', 'shop')], [('drop', 'town')]), [('drop', 'shop', ('not', ('has', 'at', 'town', 'id', ('yes',))))]
+>>> [does_mend(schema, book, ways, lets, script), does_mend(schema, book, ways, lets, []), does_mend(schema, book, ways, lets, [('drop', 'shop', ('yes',))])]
+[True, False, True]
+>>> done(schema, {'shop': [((1,), ()), ((2,), ())], 'town': [((2,), ())]}, script)
+{'shop': [((2,), ())], 'town': [((2,), ())]}
+'''
+
+STORES = '''
+>>> from rulesmerged.schemas import Schema
+>>> from rulesmerged.stores import Store
+>>> schema = Schema({'town': ((('id', 'town'),), ('old',))})
+>>> store = Store(schema, [('town', ('not', ('flag', 'old')))], {'town': ('drop', ('turned',))}, [('on', 'town', 'old'), ('put', 'town')])
+>>> [store.begin('a'), store.put('a', 'town', (1,), (False,)), store.merge(['a']), store.base, store.names, len(store)]
+[None, 0, None, {'town': [((1,), (False,))]}, [], 3]
+>>> [store.begin('b'), store.turn('b', 'town', 0, 'old'), store.done_in('b'), store.rows('b')]
+[None, None, [('on', 'town', 'old')], {'town': [((1,), (True,))]}]
+>>> store.is_safe()
+True
+>>> store.drop('b', 'town', 0)
+raises NotLet
+'''
+
+SHELL = '''
+>>> from rulesmerged.shell import Shell
+>>> shell = Shell()
+>>> shell.run('open main table,town/column,id,town/flag,old town,not,flag,old drop,turned put.town')
+'ok'
+>>> [shell.run(line) for line in ['begin main a', 'put main a town 7 n', 'show main a town', 'merge main a', 'show main town', 'copies main', 'stores']]
+['ok', '0', '7:n', 'ok', '7:n', 'none', 'main']
+'''
+
 
 class ExamplesTest(unittest.TestCase):
     def run_examples(self, text):
@@ -252,6 +298,18 @@ class ExamplesTest(unittest.TestCase):
 
     def test_meeting(self):
         self.run_examples(MEETING)
+
+    def test_needed(self):
+        self.run_examples(NEEDED)
+
+    def test_mending(self):
+        self.run_examples(MENDING)
+
+    def test_stores(self):
+        self.run_examples(STORES)
+
+    def test_shell(self):
+        self.run_examples(SHELL)
 
     def test_readme(self):
         told = doctest.testfile('../README.md')

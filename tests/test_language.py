@@ -43,8 +43,21 @@ MODULES = {
              'greatest_idle': ['schema', 'book', 'ways', 'kinds']},
     'ways': {'all_ways': ['schema'], 'good_ways': ['schema', 'book', 'kinds']},
     'meeting': {'always': TERMS + ['table', 'condition'], 'case_against': TERMS + ['table', 'condition']},
+    'needed': {'least_rules': TERMS + ['table', 'condition'], 'greatest_spoilers': TERMS + ['table', 'condition']},
+    'mending': {'is_script': ['schema', 'thing'], 'done': ['schema', 'rows', 'script'], 'does_mend': TERMS + ['script'],
+                'case_unmended': TERMS + ['script']},
+    'stores': {'Store': ['schema', 'book', 'ways', 'kinds']},
+    'shell': {'Shell': []},
     'free': {'is_free': ['schema', 'book', 'ways', 'kinds'], 'greatest_free': ['schema', 'book', 'ways'],
              'least_bad': ['schema', 'book', 'ways']},
+}
+
+CLASSES = {
+    'Schema': {'tables': '', 'changes': '', 'columns': 'table', 'flags': 'table', 'kind_of': 'table column', 'places': 'kind', '__eq__': 'other'},
+    'Store': {'begin': 'name', 'put': 'name table values flags', 'drop': 'name table index', 'turn': 'name table index flag',
+              'rows': 'name', 'done_in': 'name', 'merge': 'names', 'is_safe': '', 'undo': '', 'copy': '', '__len__': '', 'base': '',
+              'names': ''},
+    'Shell': {'run': 'line'},
 }
 
 BARRED = '''type typing enum Enum Flag IntFlag Generic Protocol ABC namedtuple TypedDict mro elements open input law register'''
@@ -108,7 +121,10 @@ class LanguageTest(unittest.TestCase):
                 plain = (ast.ImportFrom, ast.FunctionDef, ast.ClassDef, ast.Assign)
                 self.assertTrue(docstring or isinstance(node, plain), (name, node.lineno))
                 if isinstance(node, ast.Assign):
-                    ast.literal_eval(node.value)
+                    functions = {each.name for each in tree.body if isinstance(each, ast.FunctionDef) and each.lineno < node.lineno}
+                    for part in ast.walk(node.value):
+                        self.assertTrue(isinstance(part, (ast.Constant, ast.Tuple, ast.List, ast.Dict, ast.Load))
+                                        or isinstance(part, ast.Name) and part.id in functions, (name, node.lineno))
 
     def test_no_barred_statements_and_expressions(self):
         barred = (ast.GeneratorExp, ast.Lambda, ast.Global, ast.AsyncFunctionDef, ast.Await, ast.Div, ast.Yield, ast.Mod)
@@ -141,12 +157,12 @@ class LanguageTest(unittest.TestCase):
                 if name != 'ApartError':
                     self.assertEqual(list(inspect.signature(getattr(file, name)).parameters), parameters, name)
 
-    def test_interface_of_schema(self):
-        schema = next(node for _, node in self.nodes(ast.ClassDef) if node.name == 'Schema')
-        methods = {node.name: [each.arg for each in node.args.args] for node in schema.body if hasattr(node, 'name')}
-        expected = {'tables': ['self'], 'changes': ['self'], 'columns': ['self', 'table'], 'flags': ['self', 'table'],
-                    'kind_of': ['self', 'table', 'column'], 'places': ['self', 'kind'], '__eq__': ['self', 'other']}
-        self.assertEqual({name: methods.get(name) for name in expected}, expected)
+    def test_interface_of_classes(self):
+        for name, expected in CLASSES.items():
+            own = next(node for _, node in self.nodes(ast.ClassDef) if node.name == name)
+            methods = {node.name: [each.arg for each in node.args.args] for node in own.body if hasattr(node, 'name')}
+            told = {method: ' '.join(methods.get(method, ['none'])) for method in expected}
+            self.assertEqual(told, {method: ' '.join(['self'] + parameters.split()) for method, parameters in expected.items()})
 
 
 if __name__ == '__main__':

@@ -209,3 +209,22 @@ def random_asked(dice):
         condition = random_condition(dice, tables, table, dice.choice([1, 2, 3]))
         if len(reference_histories.looks(book + [(table, condition)])) <= most:
             return tables, book, ways, lets, table, condition
+
+
+def random_deed(dice, tables):
+    table = dice.choice(list(tables))
+    condition = random_condition(dice, tables, table, dice.choice([0, 1, 2, 2]))
+    flags = tables[table][1]
+    if flags and dice.random() < 0.5:
+        return ('set', table, dice.choice(flags), condition)
+    return ('drop', table, condition)
+
+
+def random_script(dice, tables, book):
+    """A script that has, with a book, not too many looks in all."""
+    most = 1 if any(len(flags) > 1 for _, flags in tables.values()) else 2
+    while True:
+        script = [random_deed(dice, tables) for _ in range(dice.choice([0, 1, 1, 2, 2, 2]))]
+        many = [len(reference_histories.looks([(deed[1], deed[-1])])) for deed in script]
+        if len(reference_histories.looks(book)) + sum(many) <= most:
+            return script
