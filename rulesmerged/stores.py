@@ -26,6 +26,8 @@ class Store:
         self._base = {table: [] for table in schema.tables}
         self._copies = {}
         self._earlier = []
+        # Whether the kinds are free, once that was asked: it hangs on nothing that changes.
+        self._safe = None
 
     def __len__(self):
         return len(self._earlier)
@@ -111,7 +113,9 @@ class Store:
 
     def is_safe(self):
         """Whether the kinds that are let are free, so that no merge of copies that keep the book breaks it."""
-        return book_search(self._schema, self._read).is_met(self._ways, (self._kinds, self._kinds))
+        if self._safe is None:
+            self._safe = book_search(self._schema, self._read).is_met(self._ways, (self._kinds, self._kinds))
+        return self._safe
 
     def undo(self):
         """Restores the state ahead of the last begin, put, drop, turn or merge that raised no error."""

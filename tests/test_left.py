@@ -81,6 +81,14 @@ class RoundsTest(unittest.TestCase):
         self.assertEqual(told, reference_histories.Striking(
             tables, book, {'town': ('keep', ('turned',))}, ([('put', 'town')],) * 2).rounds())
 
+    def test_rounds_go_on_behind_one_in_which_a_single_row_history_is_struck(self):
+        tables = {'town': ((('at', 'k'), ('by', 'k')), ('old',))}
+        book = [('town', ('not', ('has', 'by', 'town', 'by', ('has', 'at', 'town', 'at', ('flag', 'old')))))]
+        ways, lets = {'town': ('drop', ('turned',))}, ([('drop', 'town'), ('put', 'town')], [('on', 'town', 'old')])
+        told = rounds_of_histories(Schema(tables), book, ways, lets)
+        self.assertEqual({number: list(told.values()).count(number) for number in (1, 2, 3, 4)}, {1: 118, 2: 1, 3: 2, 4: 0})
+        self.assertEqual(told, reference_histories.Striking(tables, book, ways, lets).rounds())
+
     def test_either_column_strikes(self):
         # Each town is of itself and has a town of it, through two columns.
         schema = Schema({'town': ((('id', 'town'), ('of', 'town')), ())})

@@ -223,7 +223,7 @@ class ErrorsTest(unittest.TestCase):
                 shell.run(f'put plain a t 1 {word}')
 
     def test_indexes(self):
-        for word in ('2', '-', '-1', '+0', '00', '01', '0.', 'x', '1234567890', '0000000000', '999999999', 'old', '0\t', '0,1'):
+        for word in ('2', '-', '-1', '+0', '00', '01', '0.', 'x', '1234567890', '0000000000', '999999999', 'old', '0\t', '0,1', '\u00b2', '\u0661'):
             self.check(UnknownRow, f'drop main a town {word}', f'turn main a town {word} old', f'turn main a town {word} open')
         self.check(UnknownRow, 'drop main b shop 1')
         self.check(UnknownFlag, 'turn main a town 0 open', 'turn main a shop 0 old', 'turn main a town 0 -', 'turn main a town 0 id')
